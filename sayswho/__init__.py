@@ -1,0 +1,1 @@
+"""Sayswho: sayings found in runs."""

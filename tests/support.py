@@ -1,4 +1,4 @@
-"""What the tests share: answers held to their very kinds, refusals to their very class."""
+"""What the tests share: answers held to their very kinds, refusals to their very class, lists to their owners."""
 
 import unittest
 
@@ -15,6 +15,42 @@ class Case(unittest.TestCase):
             self.assertIs(type(raised), error, f"{arguments!r:.200} raised {raised!r:.200}")
         else:
             self.fail(f"{arguments!r:.200} told {told!r:.200}, not {error.__name__}")
+
+    def asked(self, function, *arguments):
+        # What is handed in stays, and no list that is told is one that was handed in, or told twice.
+        kept = repr(arguments)
+        told = function(*arguments)
+        self.assertEqual(repr(arguments), kept)
+        taken = {id(each) for each in lists_in(arguments)}
+        for each in lists_in(told):
+            self.assertNotIn(id(each), taken, f"{arguments!r:.200} told {told!r:.200}")
+            taken.add(id(each))
+        return told
+
+    def answers(self, expected, function, *arguments):
+        self.just(self.asked(function, *arguments), expected)
+
+    def own(self, function, *arguments):
+        # Told lists that are changed behind change nothing of what is told before or later.
+        first = self.asked(function, *arguments)
+        second = self.asked(function, *arguments)
+        written = repr(first)
+        lists = lists_in(first) + lists_in(second)
+        self.assertEqual(len({id(each) for each in lists}), len(lists))
+        for each in lists_in(first):
+            each.clear()
+            each.append("more")
+        self.assertEqual(repr(second), written)
+        self.assertEqual(repr(function(*arguments)), written)
+
+
+def lists_in(told):
+    if not isinstance(told, (list, tuple)):
+        return []
+    found = [told] if isinstance(told, list) else []
+    for part in told:
+        found += lists_in(part)
+    return found
 
 
 def rows(*lines):

@@ -1,5 +1,6 @@
 """What the tests share: answers held to their very kinds, refusals to their very class, lists to their owners."""
 
+import itertools
 import unittest
 
 
@@ -55,3 +56,36 @@ def lists_in(told):
 
 def rows(*lines):
     return "\n".join(lines)
+
+
+def every(program):
+    return list(itertools.product(*[range(low, high + 1) for _, low, high, _ in program[0]]))
+
+
+def made_expression(chance, names):
+    first = chance.choice(names + "012")
+    if chance.random() < 0.4:
+        return first
+    return first + chance.choice("+-*") + chance.choice(names + "012")
+
+
+def made_statement(chance, names):
+    kind = chance.choice(["ask", "ask", "put", "put", "go", "if", "if", "if", "stop"])
+    if kind == "ask":
+        return "ask " + chance.choice(names)
+    if kind == "put":
+        return "put " + chance.choice(names) + " " + made_expression(chance, names)
+    if kind == "go":
+        return "go " + chance.choice("mnk")
+    if kind == "if":
+        left, sign, right = made_expression(chance, names), chance.choice("<="), made_expression(chance, names)
+        return f"if {left} {sign} {right} go {chance.choice('mnk')}"
+    return "stop"
+
+
+def made_text(chance, *boxes):
+    # A program's text: the boxes (rows, each box named by one letter), then three marks and statements in any order.
+    names = "".join([box.split(" ")[1] for box in boxes])
+    body = ["mark m", "mark n", "mark k"] + [made_statement(chance, names) for _ in range(8)]
+    chance.shuffle(body)
+    return rows(*boxes, *body)

@@ -2,7 +2,7 @@ import itertools
 import random
 import unittest
 
-from support import Case, rows
+from support import Case, every, rows
 from sayswho.follows import follows, reason, thinned
 from sayswho.forms import is_so, read_saying, sayings
 from sayswho.reader import read
@@ -18,10 +18,6 @@ WIDE = read(rows("box a 0 19 0", "box b -10 9 0"))
 
 def of(program, *texts):
     return [read_saying(program, text) for text in texts]
-
-
-def every(program):
-    return list(itertools.product(*[range(low, high + 1) for _, low, high, _ in program[0]]))
 
 
 def so_values(program, saying):

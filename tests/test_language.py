@@ -151,6 +151,31 @@ class Language(unittest.TestCase):
             self.assertEqual(len(node.generators), 1, f"{name}:{node.lineno}")
             self.assertLessEqual(len(node.generators[0].ifs), 1, f"{name}:{node.lineno}")
 
+    def test_classes(self):
+        for name, node in self.each_node(ast.ClassDef):
+            self.assertEqual(node.decorator_list + node.keywords, [], f"{name}:{node.lineno}")
+            self.assertLessEqual(len(node.bases), 1, f"{name}:{node.lineno}")
+            for part in node.body:
+                self.assertIsInstance(part, (ast.FunctionDef, ast.Pass), f"{name}:{part.lineno}")
+
+    def test_names_of_methods_and_values(self):
+        classes = [node for _, node in self.each_node(ast.ClassDef)]
+        methods = [part.name for node in classes for part in node.body if isinstance(part, ast.FunctionDef)]
+        own = {name for kind in (str, int, list, tuple, dict, set, bytes) for name in dir(kind)}
+        for name in methods:
+            self.assertTrue(name not in own or name in METHODS + ("add", "discard", "__init__"), name)
+        for name, node in self.each_node(ast.Attribute):
+            if isinstance(node.ctx, ast.Store):
+                self.assertNotIn(node.attr, methods, f"{name}:{node.lineno}")
+                self.assertNotIn(node.attr, own, f"{name}:{node.lineno}")
+
+    def test_errors_that_are_taken(self):
+        raised = [node.name for name, node in self.each_node(ast.ClassDef) if name == "errors.py"]
+        for name, node in self.each_node(ast.ExceptHandler):
+            self.assertIn(getattr(node.type, "id", None), raised, f"{name}:{node.lineno}")
+        for name, node in self.each_node(ast.Try):
+            self.assertEqual(node.finalbody, [], f"{name}:{node.lineno}")
+
     def test_no_two_files_draw_from_one_another(self):
         drawn = {file.stem: set() for file in FILES}
         for name, node in self.each_node(ast.ImportFrom):

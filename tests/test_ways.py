@@ -3,7 +3,7 @@ import itertools
 import random
 import unittest
 
-from support import Case, rows
+from support import Case, every, made_text, rows
 from sayswho.machine import run
 from sayswho.reader import marks_of, read
 from sayswho.ways import first_of, next_of, passable, shortest
@@ -18,10 +18,6 @@ PROGRAMS = (
               "put b a", "mark n", "put a a+b", "if a = 2 go m", "stop")),
     read(rows("box a -2 1 0", "ask a", "mark m", "if a < 0 go n", "put a a-1", "ask a", "put a a*a", "mark n")),
 )
-
-
-def every(program):
-    return list(itertools.product(*[range(low, high + 1) for _, low, high, _ in program[0]]))
 
 
 def inputs(program, longest):
@@ -49,31 +45,8 @@ def begun_at(program, mark, values):
     return (boxes, [("go", moved.index(("mark", mark)) + 1)] + moved)
 
 
-def made_expression(chance):
-    first = chance.choice("ab012")
-    if chance.random() < 0.4:
-        return first
-    return first + chance.choice("+-*") + chance.choice("ab012")
-
-
-def made_statement(chance):
-    kind = chance.choice(["ask", "ask", "put", "put", "go", "if", "if", "if", "stop"])
-    if kind == "ask":
-        return "ask " + chance.choice("ab")
-    if kind == "put":
-        return "put " + chance.choice("ab") + " " + made_expression(chance)
-    if kind == "go":
-        return "go " + chance.choice("mnk")
-    if kind == "if":
-        sign = chance.choice("<=")
-        return f"if {made_expression(chance)} {sign} {made_expression(chance)} go {chance.choice('mnk')}"
-    return "stop"
-
-
 def made(chance):
-    body = ["mark m", "mark n", "mark k"] + [made_statement(chance) for _ in range(8)]
-    chance.shuffle(body)
-    return read(rows("box a -1 1 0", "box b 0 1 1", *body))
+    return read(made_text(chance, "box a -1 1 0", "box b 0 1 1"))
 
 
 class Next(Case):

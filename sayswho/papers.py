@@ -3,46 +3,57 @@
 from sayswho.follows import all_values, bits_of, so_bits
 from sayswho.machine import start_of
 from sayswho.reader import mark_places
-from sayswho.ways import standings_behind
+from sayswho.ways import kind_at, mark_at, standings_behind
 
 
-# As in follows, many values are compared by bits: here one for each values at each mark, the first mark's lowest.
-def bits_at_marks(places, every):
-    at_marks = {}
+# As in follows, many values are compared by bits, one for each of all values. What can be come to is a dict of
+# marks and bits: the values with which each is come to.
+def bit_of_each(every):
+    told = {}
     bit = 1
-    for row in places.values():
-        # From the last to the first, since so_bits has the first values highest.
-        for values in reversed(every):
-            at_marks[(row, values)] = bit
-            bit = bit * 2
-    return at_marks
+    # From the last to the first, since so_bits has the first values highest.
+    for values in reversed(every):
+        told[values] = bit
+        bit = bit * 2
+    return told
 
 
-def bits_behind(program, every, at_marks):
+def put_together(come, more):
+    for mark, bits in more.items():
+        come[mark] = come.get(mark, 0) | bits
+
+
+def come_from(program, standing, bits, behind):
+    if kind_at(program, standing) != "mark":
+        return behind[standing]
+    passed = mark_at(program, standing)
+    return {passed[0]: bits[passed[1]]}
+
+
+def come_behind(program, every, bits):
     behind = {}
     # Rows go on to the next one or to a mark: so from the last row to the first, what comes behind is known.
     for row in range(len(program[1]), -1, -1):
         for values in every:
-            bits = 0
+            come = {}
             for standing in standings_behind(program, (row, values)):
-                bits = bits | (at_marks[standing] if standing in at_marks else behind[standing])
-            behind[(row, values)] = bits
+                put_together(come, come_from(program, standing, bits, behind))
+            behind[(row, values)] = come
     return behind
 
 
 class Checker:
     # What papers of a program are held against is reckoned once, since greatest needs it again and again.
     def __init__(self, program):
-        places = mark_places(program[1])
-        start = start_of(program)
         every = all_values(program)
-        at_marks = bits_at_marks(places, every)
-        behind = bits_behind(program, every, at_marks)
+        bits = bit_of_each(every)
+        behind = come_behind(program, every, bits)
         self.every = every
         self.full = bits_of([True] * len(every))
-        self.first = at_marks[start] if start in at_marks else behind[start]
+        self.first = come_from(program, start_of(program), bits, behind)
+        # Of each mark what comes next, in the order of the bits from the lowest on.
         self.nexts = {}
-        for mark, row in places.items():
+        for mark, row in mark_places(program[1]).items():
             self.nexts[mark] = [behind[(row, values)] for values in reversed(every)]
         self.known = {}
 
@@ -58,12 +69,12 @@ class Checker:
         return bits
 
     def come_to(self, paper):
-        come = self.first
+        come = dict(self.first)
         for mark, some in paper:
             let_by = self.so_of_all(some)
             for behind in self.nexts[mark]:
                 if let_by & 1 == 1:
-                    come = come | behind
+                    put_together(come, behind)
                 let_by = let_by >> 1
         return come
 
@@ -71,9 +82,8 @@ class Checker:
         come = self.come_to(paper)
         told = []
         for mark, some in paper:
-            here = come & self.full
+            here = come.get(mark, 0)
             told.append((mark, [saying for saying in some if here & self.so_of(saying) == here]))
-            come = come >> len(self.every)
         return told
 
 
